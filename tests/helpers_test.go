@@ -1,0 +1,174 @@
+package tests
+
+import (
+	"math/big"
+	"math/rand"
+	"reflect"
+	"strings"
+	"testing"
+
+	"loop.example/g01343/impl"
+)
+
+type frac = impl.Frac
+
+type problem = impl.Problem
+
+// mustParse returns the problem with a text.
+func mustParse(t *testing.T, text string) problem {
+	t.Helper()
+	p, code := impl.ParseProblem(text)
+	if code != impl.ErrNone {
+		t.Fatalf("ParseProblem(%q): code %d", text, code)
+	}
+	return p
+}
+
+// wholes returns whole numbers as fractions.
+func wholes(list ...int64) []frac {
+	result := []frac{}
+	for _, x := range list {
+		result = append(result, frac{Num: x, Den: 1})
+	}
+	return result
+}
+
+// textsOf returns the texts of fractions, with blanks between them.
+func textsOf(t *testing.T, list []frac) string {
+	t.Helper()
+	words := []string{}
+	for _, a := range list {
+		text, code := impl.FracText(a)
+		if code != impl.ErrNone {
+			t.Fatalf("FracText(%v): code %d", a, code)
+		}
+		words = append(words, text)
+	}
+	return strings.Join(words, " ")
+}
+
+func ratOf(a frac) *big.Rat {
+	return big.NewRat(a.Num, a.Den)
+}
+
+// invalidProblems has problems that break one condition each.
+func invalidProblems() map[string]problem {
+	return map[string]problem{
+		"zero":               {},
+		"empty":              {M: [][]int64{}, Q: []int64{}},
+		"no rows":            {Q: []int64{1}},
+		"no right":           {M: [][]int64{{1}}},
+		"nil row":            {M: [][]int64{nil}, Q: []int64{1}},
+		"empty row":          {M: [][]int64{{1, 2}, {}}, Q: []int64{1, 1}},
+		"short row":          {M: [][]int64{{1, 2}, {3}}, Q: []int64{1, 1}},
+		"long row":           {M: [][]int64{{1, 2}, {3, 4, 5}}, Q: []int64{1, 1}},
+		"row too few":        {M: [][]int64{{1, 2}}, Q: []int64{1, 1}},
+		"row too many":       {M: [][]int64{{1}, {1}}, Q: []int64{1}},
+		"right too short":    {M: [][]int64{{1, 2}, {3, 4}}, Q: []int64{1}},
+		"right too long":     {M: [][]int64{{1, 2}, {3, 4}}, Q: []int64{1, 2, 3}},
+		"size 6":             squareOf(6, 1),
+		"entry above":        {M: [][]int64{{1, 2}, {21, 4}}, Q: []int64{1, 1}},
+		"entry below":        {M: [][]int64{{1, -21}, {1, 4}}, Q: []int64{1, 1}},
+		"entry least":        {M: [][]int64{{-1 << 63}}, Q: []int64{1}},
+		"entry greatest":     {M: [][]int64{{1<<63 - 1}}, Q: []int64{1}},
+		"right above":        {M: [][]int64{{1, 2}, {3, 4}}, Q: []int64{1, 101}},
+		"right below":        {M: [][]int64{{1, 2}, {3, 4}}, Q: []int64{-101, 1}},
+		"right least":        {M: [][]int64{{1}}, Q: []int64{-1 << 63}},
+		"right greatest":     {M: [][]int64{{1}}, Q: []int64{1<<63 - 1}},
+		"entry and right":    {M: [][]int64{{21}}, Q: []int64{101}},
+		"last entry above":   {M: [][]int64{{0, 0, 0}, {0, 0, 0}, {0, 0, 21}}, Q: []int64{0, 0, 0}},
+		"right but no entry": {M: [][]int64{{}}, Q: []int64{1}},
+	}
+}
+
+// squareOf returns a problem with one number everywhere.
+func squareOf(n int, x int64) problem {
+	p := problem{}
+	for range n {
+		row := []int64{}
+		for range n {
+			row = append(row, x)
+		}
+		p.M = append(p.M, row)
+		p.Q = append(p.Q, x)
+	}
+	return p
+}
+
+// invalidFracs has structs that are no fractions.
+func invalidFracs() []frac {
+	const least, greatest = -1 << 63, 1<<63 - 1
+	return []frac{
+		{}, {Num: 0, Den: 2}, {Num: 0, Den: -1}, {Num: 1, Den: 0}, {Num: 1, Den: -1}, {Num: -3, Den: -2},
+		{Num: 2, Den: 4}, {Num: -2, Den: 4}, {Num: 6, Den: 3}, {Num: 0, Den: impl.MaxFrac},
+		{Num: impl.MaxFrac, Den: impl.MaxFrac}, {Num: impl.MaxFrac + 1, Den: 1},
+		{Num: -impl.MaxFrac - 1, Den: 1}, {Num: 1, Den: impl.MaxFrac + 1}, {Num: least, Den: 1},
+		{Num: greatest, Den: 1}, {Num: 1, Den: least}, {Num: 1, Den: greatest}, {Num: least, Den: least},
+		{Num: least, Den: -1}, {Num: greatest, Den: greatest}, {Num: 0, Den: least},
+	}
+}
+
+// someProblems returns the same problems at each call, of all sizes, with small and great numbers
+// and with many zeros.
+func someProblems(count int) []problem {
+	source := rand.New(rand.NewSource(1))
+	list := []problem{}
+	for i := range count {
+		n := i%impl.MaxSize + 1
+		entry, right := int64(impl.MaxEntry), int64(impl.MaxRight)
+		if i%3 == 0 {
+			entry, right = 2, 3
+		}
+		p := squareOf(n, 0)
+		for r := range n {
+			p.Q[r] = source.Int63n(2*right+1) - right
+			for c := range n {
+				p.M[r][c] = source.Int63n(2*entry+1) - entry
+			}
+		}
+		list = append(list, p)
+	}
+	return list
+}
+
+// guarded returns a copy of a list with spare capacity, and a function that reports whether
+// neither the list nor what is behind it has been changed.
+func guarded[T any](list []T, behind T) ([]T, func() bool) {
+	whole := append(append([]T{}, list...), behind, behind)
+	want := append([]T{}, whole...)
+	return whole[:len(list)], func() bool { return reflect.DeepEqual(whole, want) }
+}
+
+// guardedProblem does the same with all slices of a problem.
+func guardedProblem(p problem) (problem, func() bool) {
+	checks := []func() bool{}
+	result := problem{}
+	for _, row := range p.M {
+		kept, check := guarded(row, 77)
+		result.M = append(result.M, kept)
+		checks = append(checks, check)
+	}
+	rows, check := guarded(result.M, []int64{88})
+	result.M = rows
+	checks = append(checks, check)
+	right, check := guarded(p.Q, 99)
+	result.Q = right
+	checks = append(checks, check)
+	return result, func() bool {
+		for _, c := range checks {
+			if !c() {
+				return false
+			}
+		}
+		return true
+	}
+}
+
+// allSets returns the sets of a size.
+func allSets(n int) []int64 {
+	list := []int64{}
+	for s := range int64(1) << n {
+		list = append(list, s)
+	}
+	return list
+}
