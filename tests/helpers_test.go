@@ -172,3 +172,86 @@ func allSets(n int) []int64 {
 	}
 	return list
 }
+
+// spoilRows fills each row and its spare capacity with a number, and looks whether the others stay.
+func spoilRows(t *testing.T, name string, rows [][]int64) {
+	t.Helper()
+	spoilWith(t, name, rows, func(i int) int64 { return int64(1000 + i) })
+}
+
+// spoilFracs does the same with lists of fractions.
+func spoilFracs(t *testing.T, name string, lists [][]frac) {
+	t.Helper()
+	spoilWith(t, name, lists, func(i int) frac { return frac{Num: int64(1000 + i), Den: 7} })
+}
+
+func spoilWith[T comparable](t *testing.T, name string, rows [][]T, mark func(int) T) {
+	t.Helper()
+	for i := range rows {
+		whole := rows[i][:cap(rows[i])]
+		for k := range whole {
+			whole[k] = mark(i)
+		}
+	}
+	for i, row := range rows {
+		for _, x := range row {
+			if x != mark(i) {
+				t.Errorf("%s: the row %d shares memory", name, i)
+			}
+		}
+	}
+}
+
+// exactPoint solves the equations of a set by elimination, apart from the program; it returns nil
+// if the set is not basic.
+func exactPoint(p problem, s int64) []*big.Rat {
+	n := len(p.M)
+	rows := exactRows(p, s)
+	for c := range n {
+		r := c
+		for r < n && rows[r][c].Sign() == 0 {
+			r++
+		}
+		if r == n {
+			return nil
+		}
+		rows[r], rows[c] = rows[c], rows[r]
+		inverse := new(big.Rat).Inv(rows[c][c])
+		for k := range rows[c] {
+			rows[c][k] = new(big.Rat).Mul(rows[c][k], inverse)
+		}
+		for i := range rows {
+			factor := rows[i][c]
+			for k := range rows[i] {
+				if i != c {
+					rows[i][k] = new(big.Rat).Sub(rows[i][k], new(big.Rat).Mul(factor, rows[c][k]))
+				}
+			}
+		}
+	}
+	point := []*big.Rat{}
+	for _, row := range rows {
+		point = append(point, row[n])
+	}
+	return point
+}
+
+// exactRows returns the equations of a set, each with its number of Q behind it.
+func exactRows(p problem, s int64) [][]*big.Rat {
+	rows := [][]*big.Rat{}
+	for k := range p.M {
+		row := []*big.Rat{}
+		for i := range p.M {
+			switch {
+			case s>>i&1 == 1:
+				row = append(row, big.NewRat(-p.M[k][i], 1))
+			case i == k:
+				row = append(row, big.NewRat(1, 1))
+			default:
+				row = append(row, new(big.Rat))
+			}
+		}
+		rows = append(rows, append(row, big.NewRat(p.Q[k], 1)))
+	}
+	return rows
+}

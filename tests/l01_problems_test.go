@@ -912,24 +912,6 @@ func TestResultsAreNew(t *testing.T) {
 	}
 }
 
-// spoilRows fills each row and its spare capacity with a number, and looks whether the others stay.
-func spoilRows(t *testing.T, name string, rows [][]int64) {
-	t.Helper()
-	for i := range rows {
-		whole := rows[i][:cap(rows[i])]
-		for k := range whole {
-			whole[k] = int64(1000 + i)
-		}
-	}
-	for i, row := range rows {
-		for _, x := range row {
-			if x != int64(1000+i) {
-				t.Errorf("%s: the row %d shares memory", name, i)
-			}
-		}
-	}
-}
-
 // TestNoState: calls in between, also those with errors, change no result.
 func TestNoState(t *testing.T) {
 	p := mustParse(t, "2,1;1,2/-5,-6")
