@@ -82,16 +82,7 @@ func CompareFracs(a Frac, b Frac) (int64, int64) {
 
 // IsProblem reports whether p is a problem.
 func IsProblem(p Problem) bool {
-	n := len(p.M)
-	if n < 1 || n > MaxSize || len(p.Q) != n || !areWithin(p.Q, MaxRight) {
-		return false
-	}
-	for _, row := range p.M {
-		if len(row) != n || !areWithin(row, MaxEntry) {
-			return false
-		}
-	}
-	return true
+	return isSquareWithin(p.M, MaxEntry) && len(p.Q) == len(p.M) && areWithin(p.Q, MaxRight)
 }
 
 // ColumnsOf returns the rows of the columns of a set s, and ErrNone.
@@ -259,6 +250,20 @@ func areWithin(list []int64, limit int64) bool {
 	return true
 }
 
+// isSquareWithin reports whether rows are n rows of n numbers within a limit, n in 1..MaxSize.
+func isSquareWithin(rows [][]int64, limit int64) bool {
+	n := len(rows)
+	if n < 1 || n > MaxSize {
+		return false
+	}
+	for _, row := range rows {
+		if len(row) != n || !areWithin(row, limit) {
+			return false
+		}
+	}
+	return true
+}
+
 func greatestDivisor(a int64, b int64) int64 {
 	for b != 0 {
 		a, b = b, a%b
@@ -311,10 +316,14 @@ func checkSet(p Problem, s int64) int64 {
 	if !IsProblem(p) {
 		return ErrInvalid
 	}
-	if s < 0 || s >= 1<<len(p.M) {
+	if !isSet(s, len(p.M)) {
 		return ErrRange
 	}
 	return ErrNone
+}
+
+func isSet(s int64, n int) bool {
+	return s >= 0 && s < 1<<n
 }
 
 func checkFracs(p Problem, z []Frac) int64 {

@@ -205,8 +205,13 @@ func spoilWith[T comparable](t *testing.T, name string, rows [][]T, mark func(in
 // exactPoint solves the equations of a set by elimination, apart from the program; it returns nil
 // if the set is not basic.
 func exactPoint(p problem, s int64) []*big.Rat {
-	n := len(p.M)
-	rows := exactRows(p, s)
+	return exactSolution(exactRows(p, s))
+}
+
+// exactSolution solves equations, each with the number of its right side behind it; it returns nil
+// if they have not just one solution. It changes the rows.
+func exactSolution(rows [][]*big.Rat) []*big.Rat {
+	n := len(rows)
 	for c := range n {
 		r := c
 		for r < n && rows[r][c].Sign() == 0 {
@@ -229,11 +234,11 @@ func exactPoint(p problem, s int64) []*big.Rat {
 			}
 		}
 	}
-	point := []*big.Rat{}
+	solution := []*big.Rat{}
 	for _, row := range rows {
-		point = append(point, row[n])
+		solution = append(solution, row[n])
 	}
-	return point
+	return solution
 }
 
 // exactRows returns the equations of a set, each with its number of Q behind it.
