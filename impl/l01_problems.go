@@ -370,15 +370,22 @@ func withColumn(rows [][]int64, i int, column []int64) [][]int64 {
 	return result
 }
 
-// determinant eliminates without fractions (Bareiss): all numbers on the way are minors of the
-// rows, so that each division leaves no rest, and their products stay far below the ends of int64.
 func determinant(rows [][]int64) int64 {
-	m := copyRows(rows)
-	sign, last := int64(1), int64(1)
+	last, sign := reduce(copyRows(rows))
+	return sign * last
+}
+
+// reduce eliminates without fractions (Bareiss), below and above, in n rows of at least n numbers:
+// all numbers on the way are minors of the rows, so that each division leaves no rest, and their
+// products stay far below the ends of int64. It returns the last number of the diagonal, which is
+// the determinant of the first n columns but for the sign, and this sign. If the number is not 0,
+// each column behind is left as what solves the equations with it on the right, times the number.
+func reduce(m [][]int64) (int64, int64) {
+	last, sign := int64(1), int64(1)
 	for c := range m {
 		r := c + slices.IndexFunc(m[c:], func(row []int64) bool { return row[c] != 0 })
 		if r < c {
-			return 0
+			return 0, sign
 		}
 		if r > c {
 			m[r], m[c] = m[c], m[r]
@@ -387,13 +394,17 @@ func determinant(rows [][]int64) int64 {
 		eliminate(m, c, last)
 		last = m[c][c]
 	}
-	return sign * last
+	return last, sign
 }
 
+// eliminate leaves the columns up to c as they are, since reduce never looks at them again.
 func eliminate(m [][]int64, c int, last int64) {
-	for i := c + 1; i < len(m); i++ {
-		for k := c + 1; k < len(m); k++ {
-			m[i][k] = (m[i][k]*m[c][c] - m[i][c]*m[c][k]) / last
+	for i, row := range m {
+		if i == c {
+			continue
+		}
+		for k := c + 1; k < len(row); k++ {
+			row[k] = (row[k]*m[c][c] - row[c]*m[c][k]) / last
 		}
 	}
 }
