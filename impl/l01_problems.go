@@ -391,20 +391,23 @@ func reduce(m [][]int64) (int64, int64) {
 			m[r], m[c] = m[c], m[r]
 			sign = -sign
 		}
-		eliminate(m, c, last)
+		eliminate(m, c, c, last)
 		last = m[c][c]
 	}
 	return last, sign
 }
 
-// eliminate leaves the columns up to c as they are, since reduce never looks at them again.
-func eliminate(m [][]int64, c int, last int64) {
+// eliminate takes the column c out of all rows but the row r, in numbers that are all multiplied by
+// last; afterwards they are multiplied by the number at r, c. The row r itself stays as it is.
+func eliminate(m [][]int64, r int, c int, last int64) {
 	for i, row := range m {
-		if i == c {
+		if i == r {
 			continue
 		}
-		for k := c + 1; k < len(row); k++ {
-			row[k] = (row[k]*m[c][c] - row[c]*m[c][k]) / last
+		// Kept here, as it becomes 0 on the way.
+		factor := row[c]
+		for k := range row {
+			row[k] = (row[k]*m[r][c] - factor*m[r][k]) / last
 		}
 	}
 }

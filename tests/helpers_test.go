@@ -4,6 +4,7 @@ import (
 	"math/big"
 	"math/rand"
 	"reflect"
+	"slices"
 	"strings"
 	"testing"
 
@@ -259,4 +260,27 @@ func exactRows(p problem, s int64) [][]*big.Rat {
 		rows = append(rows, append(row, big.NewRat(p.Q[k], 1)))
 	}
 	return rows
+}
+
+// reply is what one function returns; zero tells whether all but the code has the zero value.
+type reply struct {
+	name   string
+	result []any
+	zero   bool
+	code   int64
+}
+
+// checkRefused looks whether all answers are zero values beside a code.
+func checkRefused(t *testing.T, what string, answers []reply, code int64) {
+	t.Helper()
+	for _, answer := range answers {
+		if !answer.zero || answer.code != code {
+			t.Errorf("%s: %s = %v, %d, want code %d", what, answer.name, answer.result, answer.code, code)
+		}
+	}
+}
+
+// sameRows takes nil and empty lists as the same.
+func sameRows(a, b rows) bool {
+	return slices.EqualFunc(a, b, func(x, y []int64) bool { return slices.Equal(x, y) })
 }

@@ -14,17 +14,8 @@ import (
 
 type pivot = impl.Pivot
 
-// pivotAnswer is what one function of chapter 4 returns; zero tells whether all but the code has the
-// zero value.
-type pivotAnswer struct {
-	name   string
-	result []any
-	zero   bool
-	code   int64
-}
-
 // callPivots calls all functions of chapter 4 that take a set, and then those that take none.
-func callPivots(p problem, s, other int64, chain []int64) ([]pivotAnswer, []pivotAnswer) {
+func callPivots(p problem, s, other int64, chain []int64) ([]reply, []reply) {
 	of, a := impl.PivotOf(p, s)
 	whole, b := impl.IsWholePivot(p, s)
 	pivoted, c := impl.PivotedProblem(p, s)
@@ -33,32 +24,17 @@ func callPivots(p problem, s, other int64, chain []int64) ([]pivotAnswer, []pivo
 	signs, f := impl.SignsOfPivot(p, s)
 	inverse, det, g := impl.InverseOf(p)
 	sets, h := impl.RunChain(p, chain)
-	return []pivotAnswer{
+	return []reply{
 		{"PivotOf", []any{of}, of.Den == 0 && len(of.Rows) == 0 && len(of.Side) == 0, a},
 		{"IsWholePivot", []any{whole}, !whole, b},
 		{"PivotedProblem", []any{pivoted}, isZeroProblem(pivoted), c},
 		{"PivotMinor", []any{above, below}, above == 0 && below == 0, d},
 		{"ComplementOf", []any{complement, den}, len(complement) == 0 && den == 0, e},
 		{"SignsOfPivot", []any{signs}, len(signs) == 0, f},
-	}, []pivotAnswer{
+	}, []reply{
 		{"InverseOf", []any{inverse, det}, len(inverse) == 0 && det == 0, g},
 		{"RunChain", []any{sets}, len(sets) == 0, h},
 	}
-}
-
-// checkRefused looks whether all answers are zero values beside a code.
-func checkRefused(t *testing.T, what string, answers []pivotAnswer, code int64) {
-	t.Helper()
-	for _, answer := range answers {
-		if !answer.zero || answer.code != code {
-			t.Errorf("%s: %s = %v, %d, want code %d", what, answer.name, answer.result, answer.code, code)
-		}
-	}
-}
-
-// sameRows takes nil and empty lists as the same.
-func sameRows(a, b rows) bool {
-	return slices.EqualFunc(a, b, func(x, y []int64) bool { return slices.Equal(x, y) })
 }
 
 func samePivots(a, b pivot) bool {
@@ -241,7 +217,7 @@ func checkNotBasic(t *testing.T, p problem, s int64) {
 		if answer.name == "ComplementOf" && s == 1<<len(p.M)-1 {
 			want = impl.ErrRange
 		}
-		checkRefused(t, what, []pivotAnswer{answer}, want)
+		checkRefused(t, what, []reply{answer}, want)
 	}
 }
 
@@ -881,8 +857,8 @@ func TestSignsOfPivot(t *testing.T) {
 func TestPivotCallsLeaveNothing(t *testing.T) {
 	p, same := guardedProblem(mustParse(t, "0,1,2;1,1,4;-2,5,6/1,-2,3"))
 	chain, sameChain := guarded([]int64{1, 0, 2}, 44)
-	call := func() []pivotAnswer {
-		list := []pivotAnswer{}
+	call := func() []reply {
+		list := []reply{}
 		for s := int64(-1); s <= 8; s++ {
 			withSet, without := callPivots(p, s, 7-s, chain)
 			list = append(append(list, withSet...), without...)
