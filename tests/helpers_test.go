@@ -284,3 +284,19 @@ func checkRefused(t *testing.T, what string, answers []reply, code int64) {
 func sameRows(a, b rows) bool {
 	return slices.EqualFunc(a, b, func(x, y []int64) bool { return slices.Equal(x, y) })
 }
+
+// checkSolution looks whether what a function returned is a solution, by the program and apart from it.
+func checkSolution(t *testing.T, name string, p problem, z []frac, code int64) {
+	t.Helper()
+	if len(z) != len(p.M) || code != impl.ErrNone {
+		t.Fatalf("%s of %v = %v, %d", name, p, z, code)
+	}
+	if yes, code := impl.IsSolution(p, z); !yes || code != impl.ErrNone {
+		t.Errorf("%s of %v = %v, but IsSolution is %v, %d", name, p, z, yes, code)
+	}
+	for i, w := range exactRemainder(p, z) {
+		if z[i].Num < 0 || w.Sign() < 0 || z[i].Num != 0 && w.Sign() != 0 {
+			t.Errorf("%s of %v = %v: at %d it is none", name, p, z, i)
+		}
+	}
+}

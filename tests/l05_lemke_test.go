@@ -401,17 +401,7 @@ func TestLemkeSolutionsAreSolutions(t *testing.T) {
 			if code == impl.ErrNotFound {
 				continue
 			}
-			if len(z) != len(p.M) || code != impl.ErrNone {
-				t.Fatalf("LemkeSolution(%v, %v) = %v, %d", p, cover, z, code)
-			}
-			if yes, code := impl.IsSolution(p, z); !yes || code != impl.ErrNone {
-				t.Errorf("LemkeSolution(%v, %v) = %v, but IsSolution is %v, %d", p, cover, z, yes, code)
-			}
-			for k, w := range exactRemainder(p, z) {
-				if z[k].Num < 0 || w.Sign() < 0 || z[k].Num != 0 && w.Sign() != 0 {
-					t.Errorf("LemkeSolution(%v, %v) = %v: at %d it is none", p, cover, z, k)
-				}
-			}
+			checkSolution(t, "LemkeSolution", p, z, code)
 			if slices.Min(p.Q) < 0 {
 				found[len(p.M)]++
 			}
