@@ -327,18 +327,22 @@ func isSet(s int64, n int) bool {
 }
 
 func checkFracs(p Problem, z []Frac) int64 {
-	if !IsProblem(p) {
+	if !IsProblem(p) || !areFracs(z) {
 		return ErrInvalid
-	}
-	for _, a := range z {
-		if !IsFrac(a) {
-			return ErrInvalid
-		}
 	}
 	if len(z) != len(p.M) {
 		return ErrRange
 	}
 	return ErrNone
+}
+
+func areFracs(list []Frac) bool {
+	for _, a := range list {
+		if !IsFrac(a) {
+			return false
+		}
+	}
+	return true
 }
 
 func unitRows(n int) [][]int64 {

@@ -52,6 +52,12 @@ func ratOf(a frac) *big.Rat {
 	return big.NewRat(a.Num, a.Den)
 }
 
+// isBeyond reports whether one of some numbers is beyond the limits of fractions.
+func isBeyond(list ...*big.Rat) bool {
+	limit := big.NewInt(impl.MaxFrac)
+	return slices.ContainsFunc(list, func(x *big.Rat) bool { return x.Num().CmpAbs(limit) > 0 || x.Denom().Cmp(limit) > 0 })
+}
+
 // invalidProblems has problems that break one condition each.
 func invalidProblems() map[string]problem {
 	return map[string]problem{
@@ -186,20 +192,28 @@ func spoilFracs(t *testing.T, name string, lists [][]frac) {
 	spoilWith(t, name, lists, func(i int) frac { return frac{Num: int64(1000 + i), Den: 7} })
 }
 
+// spoilWith goes forth and back: what reaches into the row behind it is covered up again going forth.
 func spoilWith[T comparable](t *testing.T, name string, rows [][]T, mark func(int) T) {
 	t.Helper()
+	places := []int{}
 	for i := range rows {
-		whole := rows[i][:cap(rows[i])]
-		for k := range whole {
-			whole[k] = mark(i)
-		}
+		places = append(places, i)
 	}
-	for i, row := range rows {
-		for _, x := range row {
-			if x != mark(i) {
-				t.Errorf("%s: the row %d shares memory", name, i)
+	for range 2 {
+		for _, i := range places {
+			whole := rows[i][:cap(rows[i])]
+			for k := range whole {
+				whole[k] = mark(i)
 			}
 		}
+		for i, row := range rows {
+			for _, x := range row {
+				if x != mark(i) {
+					t.Errorf("%s: the row %d shares memory", name, i)
+				}
+			}
+		}
+		slices.Reverse(places)
 	}
 }
 

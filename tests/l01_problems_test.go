@@ -197,8 +197,7 @@ func TestFracsRejectInvalid(t *testing.T) {
 // checkRat compares a result with an exact one, which is beyond the limits or not.
 func checkRat(t *testing.T, name string, got frac, code int64, want *big.Rat) {
 	t.Helper()
-	limit := big.NewInt(impl.MaxFrac)
-	if want.Num().CmpAbs(limit) > 0 || want.Denom().Cmp(limit) > 0 {
+	if isBeyond(want) {
 		if got != (frac{}) || code != impl.ErrLimit {
 			t.Errorf("%s = %v, %d, want ErrLimit", name, got, code)
 		}

@@ -784,11 +784,7 @@ func commonDen(list []frac) *big.Int {
 func checkPayoffs(t *testing.T, g game, x, y []frac) bool {
 	t.Helper()
 	want := []*big.Rat{exactPayoff(g, 0, ratsOf(x), ratsOf(y)), exactPayoff(g, 1, ratsOf(y), ratsOf(x))}
-	beyond := commonDen(x).Cmp(big.NewInt(30000)) > 0 || commonDen(y).Cmp(big.NewInt(30000)) > 0
-	for _, w := range want {
-		beyond = beyond || w.Num().Cmp(big.NewInt(impl.MaxFrac)) > 0 || w.Denom().Cmp(big.NewInt(impl.MaxFrac)) > 0
-	}
-	if beyond {
+	if commonDen(x).Cmp(big.NewInt(30000)) > 0 || commonDen(y).Cmp(big.NewInt(30000)) > 0 || isBeyond(want...) {
 		checkRefused(t, "payoffs beyond the limits", callPayoffs(g, x, y), impl.ErrLimit)
 		return false
 	}
