@@ -48,6 +48,34 @@ func textsOf(t *testing.T, list []frac) string {
 	return strings.Join(words, " ")
 }
 
+// ratsFrom returns the fractions of a text, with blanks between them.
+func ratsFrom(t *testing.T, text string) []*big.Rat {
+	t.Helper()
+	list := []*big.Rat{}
+	for word := range strings.FieldsSeq(text) {
+		x, ok := new(big.Rat).SetString(word)
+		if !ok {
+			t.Fatalf("no fraction: %q", word)
+		}
+		list = append(list, x)
+	}
+	return list
+}
+
+func fracsFrom(list []*big.Rat) []frac {
+	result := []frac{}
+	for _, x := range list {
+		result = append(result, frac{Num: x.Num().Int64(), Den: x.Denom().Int64()})
+	}
+	return result
+}
+
+// fracsIn returns the fractions of a text, in lowest terms, also those beyond the limits.
+func fracsIn(t *testing.T, text string) []frac {
+	t.Helper()
+	return fracsFrom(ratsFrom(t, text))
+}
+
 func ratOf(a frac) *big.Rat {
 	return big.NewRat(a.Num, a.Den)
 }

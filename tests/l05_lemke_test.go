@@ -29,20 +29,6 @@ func rowsOrNone(text string) rows {
 	return rowsOf(text)
 }
 
-// ratsFrom returns the fractions of a text, with blanks between them.
-func ratsFrom(t *testing.T, text string) []*big.Rat {
-	t.Helper()
-	list := []*big.Rat{}
-	for word := range strings.FieldsSeq(text) {
-		x, ok := new(big.Rat).SetString(word)
-		if !ok {
-			t.Fatalf("no fraction: %q", word)
-		}
-		list = append(list, x)
-	}
-	return list
-}
-
 // callAfter calls all functions that tell of the table after k steps.
 func callAfter(p problem, cover []int64, k int64) []reply {
 	basis, a := impl.BasisAfter(p, cover, k)

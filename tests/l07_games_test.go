@@ -126,14 +126,6 @@ func ratMix(parts ...int64) []*big.Rat {
 	return mix
 }
 
-func fracsFrom(list []*big.Rat) []frac {
-	result := []frac{}
-	for _, x := range list {
-		result = append(result, frac{Num: x.Num().Int64(), Den: x.Denom().Int64()})
-	}
-	return result
-}
-
 func mixOf(parts ...int64) []frac {
 	return fracsFrom(ratMix(parts...))
 }
@@ -860,12 +852,6 @@ func TestPayoffLimits(t *testing.T) {
 	}
 }
 
-// mixText returns a mix from the text of its fractions.
-func mixText(t *testing.T, text string) []frac {
-	t.Helper()
-	return fracsFrom(ratsFrom(t, text))
-}
-
 // TestListsThatAreNoMixes gives each list in the place of each mix, with a mix, and with itself, as the
 // other one. ErrRange comes ahead of ErrLimit.
 func TestListsThatAreNoMixes(t *testing.T) {
@@ -919,7 +905,7 @@ func TestCommonDenominatorsOfMixes(t *testing.T) {
 		"500000001/1000000000 1/1000000000 1/2":      false,
 		"333333333/1000000000 333333333/500000000 0": false,
 	} {
-		mix, code := mixText(t, text), int64(impl.ErrNone)
+		mix, code := fracsIn(t, text), int64(impl.ErrNone)
 		if !ok {
 			code = impl.ErrRange
 		}

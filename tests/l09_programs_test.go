@@ -413,7 +413,7 @@ func TestValuesAndSlopes(t *testing.T) {
 		{"20,20,20,20,20;20,20,20,20,20;20,20,20,20,20;20,20,20,20,20;20,20,20,20,20/0,0,0,0,-1", "10000000 10000000 10000000 10000000 10000000", "", "1000000000 1000000000 1000000000 1000000000 999999999"},
 		{"20,-20,0,0,0;-20,20,-20,20,-20;0,-20,0,0,0;0,20,0,0,0;0,-20,0,0,0/0,-1,0,0,0", "10000000 -10000000 10000000 -10000000 10000000", "", ""},
 	} {
-		p, x := programFrom(c.program), fracsFrom(ratsFrom(t, c.x))
+		p, x := programFrom(c.program), fracsIn(t, c.x)
 		value, a := impl.ValueAt(p, x)
 		slopes, b := impl.SlopesAt(p, x)
 		if c.value == "" {
@@ -558,7 +558,7 @@ func TestIsPlace(t *testing.T) {
 		{"0/0/20/100", "500000001/100000000", true},
 		{"0/0/20/100", "499999999/100000000", false},
 	} {
-		p, x := programFrom(c.program), fracsFrom(ratsFrom(t, c.x))
+		p, x := programFrom(c.program), fracsIn(t, c.x)
 		if yes, code := impl.IsPlace(p, x); yes != c.want || code != impl.ErrNone {
 			t.Errorf("IsPlace(%s, %s) = %v, %d, want %v", c.program, c.x, yes, code, c.want)
 		}
@@ -612,7 +612,7 @@ func TestPlacesWithWideFractions(t *testing.T) {
 	for _, text := range []string{"0,0;0,0/0,0", "2,1;1,2/-3,5/1,1/2", "2,1;1,2/-3,5/20,-20;-20,20;20,20/-100,100,0"} {
 		p := programFrom(text)
 		for _, c := range wideCases() {
-			x := fracsFrom(ratsFrom(t, c.x))
+			x := fracsIn(t, c.x)
 			if isWide(x, impl.MaxFrac, 1000000000000) == c.within {
 				t.Fatalf("the case %s is wrong", c.x)
 			}
@@ -715,7 +715,7 @@ func TestIsStationary(t *testing.T) {
 		{"0,0;0,0/100,100/-20,-20/-100", "0 0", "1000000000", false},
 		{"0,0;0,0/100,100/-20,-20/0", "0 0", "1000000000", true},
 	} {
-		p, x, y := programFrom(c.program), fracsFrom(ratsFrom(t, c.x)), fracsFrom(ratsFrom(t, c.y))
+		p, x, y := programFrom(c.program), fracsIn(t, c.x), fracsIn(t, c.y)
 		if yes, code := impl.IsStationary(p, x, y); yes != c.want || code != impl.ErrNone {
 			t.Errorf("IsStationary(%s, %s, %s) = %v, %d, want %v", c.program, c.x, c.y, yes, code, c.want)
 		}
@@ -725,7 +725,7 @@ func TestIsStationary(t *testing.T) {
 // TestStationaryWithWideFractions has them in x alone, in y alone, and in both together.
 func TestStationaryWithWideFractions(t *testing.T) {
 	for _, c := range wideCases() {
-		z := fracsFrom(ratsFrom(t, c.x))
+		z := fracsIn(t, c.x)
 		for _, given := range []struct {
 			program string
 			x, y    []frac
