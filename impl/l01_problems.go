@@ -202,11 +202,7 @@ func ProblemText(p Problem) (string, int64) {
 	if !IsProblem(p) {
 		return "", ErrInvalid
 	}
-	rows := make([]string, len(p.M))
-	for i, row := range p.M {
-		rows[i] = joinNumbers(row)
-	}
-	return strings.Join(rows, ";") + "/" + joinNumbers(p.Q), ErrNone
+	return joinRows(p.M) + "/" + joinNumbers(p.Q), ErrNone
 }
 
 // ParseProblem returns the problem with a text, and ErrNone. Errors: ErrSyntax if there is none.
@@ -229,11 +225,7 @@ func FracText(a Frac) (string, int64) {
 	if !IsFrac(a) {
 		return "", ErrInvalid
 	}
-	text := strconv.FormatInt(a.Num, 10)
-	if a.Den != 1 {
-		text += "/" + strconv.FormatInt(a.Den, 10)
-	}
-	return text, ErrNone
+	return fracText(a), ErrNone
 }
 
 // isWithin compares with both ends, as the least int64 has no absolute value.
@@ -461,12 +453,31 @@ func isNumbering(list []int64, n int) bool {
 	return true
 }
 
-func joinNumbers(list []int64) string {
-	words := make([]string, len(list))
-	for i, x := range list {
-		words[i] = strconv.FormatInt(x, 10)
+func decimal(x int64) string {
+	return strconv.FormatInt(x, 10)
+}
+
+func fracText(a Frac) string {
+	if a.Den == 1 {
+		return decimal(a.Num)
 	}
-	return strings.Join(words, ",")
+	return decimal(a.Num) + "/" + decimal(a.Den)
+}
+
+func joinRows(rows [][]int64) string {
+	return joinTexts(rows, ";", joinNumbers)
+}
+
+func joinNumbers(list []int64) string {
+	return joinTexts(list, ",", decimal)
+}
+
+func joinTexts[T any](list []T, between string, textOf func(T) string) string {
+	texts := make([]string, len(list))
+	for i, x := range list {
+		texts[i] = textOf(x)
+	}
+	return strings.Join(texts, between)
 }
 
 // splitNumbers leaves it to ParseProblem to refuse words that are no numbers.
